@@ -139,7 +139,7 @@ func TestText(t *testing.T) {
 		if text, ok := a.Decimal(len(want) - 1); text != "" || ok {
 			t.Fatalf("Decimal of %s with a digit less: %s, %v", want, text, ok)
 		}
-		s, ok := Read("-" + want)
+		s, ok := Read("-"+want, len(want))
 		if a.IsZero() {
 			if ok {
 				t.Fatalf("Read of -0: %v", s)
@@ -149,9 +149,12 @@ func TestText(t *testing.T) {
 		if !ok || !s.Below || !slices.Equal(s.Magnitude, a) {
 			t.Fatalf("Read of -%s: %v, %v", want, s, ok)
 		}
+		if s, ok := Read("-"+want, len(want)-1); ok || s.Magnitude != nil || s.Below {
+			t.Fatalf("Read of -%s with a digit less: %v, %v", want, s, ok)
+		}
 	}
 	for _, text := range []string{"", "-", "+1", "00", "01", "-0", "-01", "--1", "1-", " 1", "1 ", "1_0", "1.0", "0x1", "\x00", "٣", "1" + strings.Repeat("0", 18) + ":", strings.Repeat("1", 19) + "/" + strings.Repeat("1", 19)} {
-		if s, ok := Read(text); ok || s.Magnitude != nil || s.Below {
+		if s, ok := Read(text, 100); ok || s.Magnitude != nil || s.Below {
 			t.Errorf("Read(%q): %v, %v", text, s, ok)
 		}
 	}

@@ -11,6 +11,14 @@ func signed(m Magnitude, below bool) Signed {
 	return Signed{m, below && !m.IsZero()}
 }
 
+// Of returns the number n.
+func Of(n int) Signed {
+	if n < 0 {
+		return Signed{fromWord(-uint64(n)), true}
+	}
+	return Signed{fromWord(uint64(n)), false}
+}
+
 // Sign returns -1, 0 or 1.
 func (s Signed) Sign() int {
 	if s.IsZero() {
@@ -64,6 +72,11 @@ func (s Signed) Over(o Signed) (quotient, rest Signed) {
 		r = o.Difference(r)
 	}
 	return signed(q, s.Below != o.Below), signed(r, false)
+}
+
+// Divisor returns the greatest common divisor, which is not below 0.
+func (s Signed) Divisor(o Signed) Signed {
+	return signed(s.Common(o.Magnitude), false)
 }
 
 // ToPower returns the n-th power, which is 1 for n 0; n is not negative.

@@ -1,6 +1,7 @@
 package number
 
 import (
+	"math"
 	"math/big"
 	"math/rand"
 	"testing"
@@ -38,6 +39,7 @@ func TestSigned(t *testing.T) {
 		expectSigned(t, "Minus itself", a.Minus(a), new(big.Int))
 		expectSigned(t, "Times", a.Times(b), new(big.Int).Mul(x, y))
 		expectSigned(t, "Negative", a.Negative(), new(big.Int).Neg(x))
+		expectSigned(t, "Divisor", a.Divisor(b), new(big.Int).GCD(nil, nil, new(big.Int).Abs(x), new(big.Int).Abs(y)))
 		n := r.Intn(6)
 		expectSigned(t, "ToPower", a.ToPower(n), new(big.Int).Exp(x, big.NewInt(int64(n)), nil))
 		if a.Sign() != x.Sign() || a.Order(b) != x.Cmp(y) {
@@ -52,5 +54,11 @@ func TestSigned(t *testing.T) {
 			expectSigned(t, "Over, quotient", q, wantQ)
 			expectSigned(t, "Over, rest", rest, wantRest)
 		}
+	}
+}
+
+func TestOf(t *testing.T) {
+	for _, n := range []int{0, 1, -1, 65535, math.MaxInt, -math.MaxInt, math.MinInt} {
+		expectSigned(t, "Of", Of(n), big.NewInt(int64(n)))
 	}
 }

@@ -1,8 +1,6 @@
 package whole
 
 import (
-	"strings"
-
 	"verdigris/api"
 	"verdigris/number"
 )
@@ -25,12 +23,8 @@ func operations() [operationCount]operation {
 		sum:        {number.Signed.Plus},
 		difference: {number.Signed.Minus},
 		product:    {number.Signed.Times},
-		divisor:    {commonDivisor},
+		divisor:    {number.Signed.Divisor},
 	}
-}
-
-func commonDivisor(a, b number.Signed) number.Signed {
-	return number.Signed{Magnitude: a.Common(b.Magnitude)}
 }
 
 func combine(kind int, a, b api.Whole) (api.Whole, api.Errno) {
@@ -41,12 +35,9 @@ func combine(kind int, a, b api.Whole) (api.Whole, api.Errno) {
 	return write(operations()[kind].compute(x, y))
 }
 
-// read returns the number of a text, or ErrWhole if it is not valid. The length is looked at first, as reading takes the square of its time.
+// read returns the number of a text, or ErrWhole if it is not valid.
 func read(a api.Whole) (number.Signed, api.Errno) {
-	if len(strings.TrimPrefix(string(a), "-")) > api.MaxWhole {
-		return number.Signed{}, api.ErrWhole
-	}
-	x, ok := number.Read(string(a))
+	x, ok := number.Read(string(a), api.MaxWhole)
 	if !ok {
 		return number.Signed{}, api.ErrWhole
 	}
