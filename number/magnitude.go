@@ -43,6 +43,14 @@ func (m Magnitude) length() int {
 	return top*wordBits + bits.Len64(m[top])
 }
 
+// Int returns the number as an integer, and whether it is at most that one; if not, it returns none.
+func (m Magnitude) Int(most int) (int, bool) {
+	if len(m) > 1 || m.word(0) > uint64(most) {
+		return 0, false
+	}
+	return int(m.word(0)), true
+}
+
 // Compare returns -1, 0 or 1 if the number is less than, equal to or greater than o.
 func (m Magnitude) Compare(o Magnitude) int {
 	if len(m) != len(o) {

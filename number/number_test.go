@@ -1,6 +1,7 @@
 package number
 
 import (
+	"math"
 	"math/big"
 	"math/rand"
 	"slices"
@@ -156,6 +157,23 @@ func TestText(t *testing.T) {
 	for _, text := range []string{"", "-", "+1", "00", "01", "-0", "-01", "--1", "1-", " 1", "1 ", "1_0", "1.0", "0x1", "\x00", "٣", "1" + strings.Repeat("0", 18) + ":", strings.Repeat("1", 19) + "/" + strings.Repeat("1", 19)} {
 		if s, ok := Read(text, 100); ok || s.Magnitude != nil || s.Below {
 			t.Errorf("Read(%q): %v, %v", text, s, ok)
+		}
+	}
+}
+
+func TestInt(t *testing.T) {
+	const most = 1000000000000000000
+	for _, x := range []struct {
+		m       Magnitude
+		most, n int
+		ok      bool
+	}{
+		{nil, 0, 0, true}, {nil, most, 0, true}, {Magnitude{1}, 0, 0, false}, {Magnitude{5}, 5, 5, true}, {Magnitude{6}, 5, 0, false},
+		{Magnitude{most}, most, most, true}, {Magnitude{most + 1}, most, 0, false}, {Magnitude{math.MaxInt}, math.MaxInt, math.MaxInt, true},
+		{Magnitude{1 << 63}, math.MaxInt, 0, false}, {Magnitude{1<<64 - 1}, math.MaxInt, 0, false}, {Magnitude{0, 1}, math.MaxInt, 0, false}, {Magnitude{5, 1}, 5, 0, false},
+	} {
+		if n, ok := x.m.Int(x.most); n != x.n || ok != x.ok {
+			t.Errorf("Int of %v, at most %d: %d, %v", x.m, x.most, n, ok)
 		}
 	}
 }
