@@ -6,7 +6,7 @@ import (
 )
 
 // apply returns the result of an operation on one fraction.
-func apply[T any](a api.Frac, operation func(ratio) T) (result T, e api.Errno) {
+func apply[T any](a api.Frac, operation func(number.Ratio) T) (result T, e api.Errno) {
 	x, e := read(a)
 	if e != api.OK {
 		return result, e
@@ -15,7 +15,7 @@ func apply[T any](a api.Frac, operation func(ratio) T) (result T, e api.Errno) {
 }
 
 // combine returns the result of an operation on two fractions.
-func combine[T any](a, b api.Frac, operation func(x, y ratio) T) (result T, e api.Errno) {
+func combine[T any](a, b api.Frac, operation func(x, y number.Ratio) T) (result T, e api.Errno) {
 	l, e := readAll(a, b)
 	if e != api.OK {
 		return result, e
@@ -24,7 +24,7 @@ func combine[T any](a, b api.Frac, operation func(x, y ratio) T) (result T, e ap
 }
 
 // finish returns the fraction that an operation has led to, or its error.
-func finish(x ratio, e api.Errno) (api.Frac, api.Errno) {
+func finish(x number.Ratio, e api.Errno) (api.Frac, api.Errno) {
 	if e != api.OK {
 		return api.Frac{}, e
 	}
@@ -32,17 +32,16 @@ func finish(x ratio, e api.Errno) (api.Frac, api.Errno) {
 }
 
 // read returns the number of a fraction, or ErrFrac if it is not valid.
-func read(a api.Frac) (ratio, api.Errno) {
-	n, ok := readWhole(a.N)
-	d, also := readWhole(a.D)
-	if !ok || !also || d.Sign() < 1 || n.Divisor(d).Order(number.Of(1)) != 0 {
-		return ratio{}, api.ErrFrac
+func read(a api.Frac) (number.Ratio, api.Errno) {
+	x, ok := number.ReadFrac(a)
+	if !ok {
+		return number.Ratio{}, api.ErrFrac
 	}
-	return ratio{n, d}, api.OK
+	return x, api.OK
 }
 
-func readAll(l ...api.Frac) ([]ratio, api.Errno) {
-	all := make([]ratio, len(l))
+func readAll(l ...api.Frac) ([]number.Ratio, api.Errno) {
+	all := make([]number.Ratio, len(l))
 	for i, a := range l {
 		x, e := read(a)
 		if e != api.OK {
@@ -58,16 +57,12 @@ func readWhole(a api.Whole) (number.Signed, bool) {
 }
 
 // write returns the texts of a fraction, or ErrBig if one of them has too many digits.
-func write(x ratio) (api.Frac, api.Errno) {
-	n, e := writeWhole(x.Signed)
-	if e != api.OK {
-		return api.Frac{}, e
+func write(x number.Ratio) (api.Frac, api.Errno) {
+	a, ok := x.Frac()
+	if !ok {
+		return api.Frac{}, api.ErrBig
 	}
-	d, e := writeWhole(x.under)
-	if e != api.OK {
-		return api.Frac{}, e
-	}
-	return api.Frac{N: n, D: d}, api.OK
+	return a, api.OK
 }
 
 func writeWhole(n number.Signed) (api.Whole, api.Errno) {

@@ -1,4 +1,4 @@
-// Package number computes with whole numbers of any length. It is no layer: the layers share it, as the numbers on their way to a result have more digits than api.MaxWhole.
+// Package number computes with whole numbers and fractions of any length. It is no layer: the layers share it, as the numbers on their way to a result have more digits than api.MaxWhole.
 package number
 
 import "math/bits"
