@@ -19,7 +19,7 @@ func Lowest(n, d Signed) Ratio {
 	if d.Below {
 		divisor = divisor.Negative()
 	}
-	return Ratio{part(n, divisor), part(d, divisor)}
+	return Ratio{n.Part(divisor), d.Part(divisor)}
 }
 
 // ReadFrac returns the number of a fraction, and whether it is valid.
@@ -42,10 +42,9 @@ func (r Ratio) Frac() (api.Frac, bool) {
 	return api.Frac{N: api.Whole(n), D: api.Whole(d)}, true
 }
 
-// part returns n divided by a divisor of it.
-func part(n, divisor Signed) Signed {
-	quotient, _ := n.Over(divisor)
-	return quotient
+// Denominator returns the denominator, which is above 0.
+func (r Ratio) Denominator() Signed {
+	return r.under
 }
 
 // Order returns -1, 0 or 1 if the fraction is less than, equal to or greater than o.
@@ -69,10 +68,10 @@ func (r Ratio) Absolute() Ratio {
 // Plus returns the sum. Nothing cancels but a divisor of what both denominators share, so that long denominators which share little are not searched for more.
 func (r Ratio) Plus(o Ratio) Ratio {
 	shared := r.under.Divisor(o.under)
-	mine, others := part(r.under, shared), part(o.under, shared)
+	mine, others := r.under.Part(shared), o.under.Part(shared)
 	sum := r.Signed.Times(others).Plus(o.Signed.Times(mine))
 	divisor := sum.Divisor(shared)
-	return Ratio{part(sum, divisor), mine.Times(part(o.under, divisor))}
+	return Ratio{sum.Part(divisor), mine.Times(o.under.Part(divisor))}
 }
 
 // Minus returns the difference.

@@ -36,6 +36,7 @@ func TestRatio(t *testing.T) {
 		a, b := ratioSample(r), ratioSample(r)
 		x, y := ratioBig(a), ratioBig(b)
 		expectRatio(t, "Lowest", a, x)
+		expectSigned(t, "Denominator", a.Denominator(), x.Denom())
 		expectRatio(t, "Plus", a.Plus(b), new(big.Rat).Add(x, y))
 		expectRatio(t, "Minus", a.Minus(b), new(big.Rat).Sub(x, y))
 		expectRatio(t, "Minus itself", a.Minus(a), new(big.Rat))

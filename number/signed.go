@@ -74,6 +74,12 @@ func (s Signed) Over(o Signed) (quotient, rest Signed) {
 	return signed(q, s.Below != o.Below), signed(r, false)
 }
 
+// Part returns the number divided by a divisor of it.
+func (s Signed) Part(divisor Signed) Signed {
+	quotient, _ := s.Over(divisor)
+	return quotient
+}
+
 // Divisor returns the greatest common divisor, which is not below 0.
 func (s Signed) Divisor(o Signed) Signed {
 	return signed(s.Common(o.Magnitude), false)

@@ -53,6 +53,7 @@ func TestSigned(t *testing.T) {
 			wantQ, wantRest := new(big.Int).DivMod(x, y, new(big.Int))
 			expectSigned(t, "Over, quotient", q, wantQ)
 			expectSigned(t, "Over, rest", rest, wantRest)
+			expectSigned(t, "Part", a.Times(b).Part(b), x)
 		}
 	}
 }
